@@ -186,24 +186,27 @@ func checkStale(t *testing.T, b impl.Bus, s impl.Store) (impl.Store, int) {
 
 func isUnitPlace(pc int) bool { return pc >= 0 && pc <= 512 && pc%2 == 0 }
 
-// checkUnitFor: how it ended, by name: found, translated, or not.
-func checkUnitFor(t *testing.T, s impl.Store, b impl.Bus, pc int) (impl.Store, string) {
-	t.Helper()
-	want, wantUnit, wantFinds := wantedFound(s, pc)
-	wantOk, ended := wantFinds, "found"
-	if !wantFinds {
-		ended = "translated"
-		if isUnitPlace(pc) && len(wantedRowAt(b, pc)) > 0 {
-			wantUnit = wantedUnit(pc, wantedRowAt(b, pc)...)
-			want, wantOk = wantedStored(s, wantUnit)
+// wantedUnitFor: and how it ended, by name: found, translated, or not.
+func wantedUnitFor(s impl.Store, b impl.Bus, pc int) (impl.Store, impl.Unit, string) {
+	if want, u, finds := wantedFound(s, pc); finds {
+		return want, u, "found"
+	}
+	if isUnitPlace(pc) && len(wantedRowAt(b, pc)) > 0 {
+		u := wantedUnit(pc, wantedRowAt(b, pc)...)
+		if want, ok := wantedStored(s, u); ok {
+			return want, u, "translated"
 		}
 	}
-	if !wantOk {
-		want, wantUnit, ended = impl.Store{}, impl.Unit{}, "not"
-	}
+	return impl.Store{}, impl.Unit{}, "not"
+}
+
+// checkUnitFor: how it ended, by name.
+func checkUnitFor(t *testing.T, s impl.Store, b impl.Bus, pc int) (impl.Store, string) {
+	t.Helper()
+	want, wantUnit, ended := wantedUnitFor(s, b, pc)
 	got, u, finds, ok := impl.UnitFor(s, b, pc)
-	if ok != wantOk || finds != wantFinds || !sameUnits(u, wantUnit) || !sameStores(got, want) {
-		t.Fatalf("UnitFor(%v, %d) = %v, %v, %v, %v; want %v, %v, %v, %v", s, pc, got, u, finds, ok, want, wantUnit, wantFinds, wantOk)
+	if ok != (ended != "not") || finds != (ended == "found") || !sameUnits(u, wantUnit) || !sameStores(got, want) {
+		t.Fatalf("UnitFor(%v, %d) = %v, %v, %v, %v; want %v, %v, %v", s, pc, got, u, finds, ok, want, wantUnit, ended)
 	}
 	if !ok {
 		return s, ended
